@@ -1,0 +1,1 @@
+"""A processor after Itanium: predicates, registers that turn, loads ahead."""
