@@ -1,6 +1,6 @@
 """The calls on one machine, taken from a list and answered in one."""
 
-from aheadloads.calls import ep_begin, ep_load, ep_look, ep_program
+from aheadloads.calls import ep_begin, ep_get, ep_load, ep_look, ep_program, ep_run, ep_set, ep_why
 from aheadloads.reader import Reader
 from aheadloads.state import State
 
@@ -8,6 +8,10 @@ BEGIN = 0
 PROGRAM = 1
 LOAD = 2
 LOOK = 3
+RUN = 4
+WHY = 5
+GET = 6
+SET = 7
 
 
 class NoSuchCall(ValueError):
@@ -35,6 +39,14 @@ def answer_next(state, reader):
         return answer_load(state, reader)
     if call == LOOK:
         return answer_look(state, reader)
+    if call == RUN:
+        return ep_run(state, reader.take_number())
+    if call == WHY:
+        return ep_why(state)
+    if call == GET:
+        return ep_get(state, reader.take_number())
+    if call == SET:
+        return answer_set(state, reader)
     raise NoSuchCall(f"no such call: {call}")
 
 
@@ -55,3 +67,9 @@ def answer_look(state, reader):
     at = reader.take_number()
     n = reader.take_number()
     return ep_look(state, at, n)
+
+
+def answer_set(state, reader):
+    which = reader.take_number()
+    value = reader.take_number()
+    return ep_set(state, which, value)

@@ -29,6 +29,27 @@ def look(at, n):
     return [3, at, n]
 
 
+def run(n):
+    return [4, n]
+
+
+def why():
+    return [5]
+
+
+def get(which):
+    return [6, which]
+
+
+def set_to(which, value):
+    return [7, which, value]
+
+
+def word(what, q=0, x=0, y=0, z=0, n=0):
+    """A program's word; n is written with its sign."""
+    return what | q << 8 | x << 16 | y << 24 | z << 32 | (n & 0xFFFFFF) << 40
+
+
 def taken_apart(numbers):
     found = []
     place = 0

@@ -55,6 +55,33 @@ def names_bound(node):
     return []
 
 
+def names_at_top(node):
+    if isinstance(node, ast.Assign):
+        return [target.id for target in node.targets]
+    if isinstance(node, ast.ImportFrom):
+        return [name.name for name in node.names]
+    return names_bound(node)
+
+
+def is_plain(value, defined):
+    """A plain value, or a tuple or dict of these and of functions that are defined above."""
+    if isinstance(value, ast.Constant):
+        return True
+    if isinstance(value, ast.UnaryOp):
+        return isinstance(value.operand, ast.Constant)
+    if isinstance(value, ast.Name):
+        return value.id in defined
+    if isinstance(value, (ast.Tuple, ast.List)):
+        return all(is_plain(part, defined) for part in value.elts)
+    if isinstance(value, ast.Dict):
+        return all(is_plain(part, defined) for part in value.keys + value.values)
+    return False
+
+
+def drawn_from(path):
+    return {node.module.split(".")[1] for node in nodes(path) if isinstance(node, ast.ImportFrom)}
+
+
 class Form(unittest.TestCase):
     def each_node(self):
         for path in files():
@@ -108,6 +135,69 @@ class Form(unittest.TestCase):
                     self.assertRegex(node.module, r"^aheadloads\.\w+$", path.name)
                     self.assertEqual(node.level, 0, path.name)
                     self.assertNotIn("*", [name.name for name in node.names], path.name)
+
+    def test_the_top_of_files(self):
+        for path in files():
+            bound = []
+            for number, node in enumerate(ast.parse(path.read_text(encoding="ascii")).body):
+                where = f"{path.name}:{node.lineno}"
+                if number == 0:
+                    self.assertIsInstance(node.value, ast.Constant, where)
+                elif isinstance(node, ast.Assign):
+                    self.assertIsInstance(node.targets[0], ast.Name, where)
+                    self.assertTrue(is_plain(node.value, bound), where)
+                else:
+                    self.assertIsInstance(node, (ast.ImportFrom, ast.FunctionDef, ast.ClassDef), where)
+                names = names_at_top(node)
+                self.assertEqual(set(names) & set(bound), set(), where)
+                bound += names
+
+    def test_no_local_is_called_like_an_import_or_a_class(self):
+        for path in files():
+            taken = set()
+            for node in ast.parse(path.read_text(encoding="ascii")).body:
+                if isinstance(node, (ast.ImportFrom, ast.ClassDef)):
+                    taken.update(names_at_top(node))
+            for node in nodes(path):
+                if isinstance(node, ast.arg):
+                    self.assertNotIn(node.arg, taken, f"{path.name}:{node.lineno}")
+                if isinstance(node, ast.Name) and isinstance(node.ctx, ast.Store):
+                    self.assertNotIn(node.id, taken, f"{path.name}:{node.lineno}")
+
+    def test_imports_are_drawn_from_where_the_name_is_defined(self):
+        for path in files():
+            for node in nodes(path):
+                if isinstance(node, ast.ImportFrom):
+                    source = PACKAGE / (node.module.split(".")[1] + ".py")
+                    defined = []
+                    for other in ast.parse(source.read_text(encoding="ascii")).body:
+                        if not isinstance(other, ast.ImportFrom):
+                            defined += names_at_top(other)
+                    for name in node.names:
+                        self.assertIn(name.name, defined, f"{path.name}:{node.lineno}")
+                        self.assertIsNone(name.asname, f"{path.name}:{node.lineno}")
+
+    def test_no_two_files_draw_from_one_another(self):
+        left = {path.stem: drawn_from(path) for path in files()}
+        while left:
+            free = [name for name, sources in left.items() if not sources & set(left)]
+            self.assertNotEqual(free, [], str(sorted(left)))
+            for name in free:
+                left.pop(name)
+
+    def test_errors(self):
+        for where, node in self.each_node():
+            if isinstance(node, ast.ExceptHandler):
+                self.assertIsInstance(node.type, ast.Name, where)
+                self.assertNotIn(node.type.id, ("Exception", "TypeError"), where)
+            if isinstance(node, ast.Raise):
+                self.assertIsInstance(node.exc, ast.Call, where)
+
+    def test_is_stands_beside_none_true_and_false_alone(self):
+        for where, node in self.each_node():
+            if isinstance(node, ast.Compare) and isinstance(node.ops[0], (ast.Is, ast.IsNot)):
+                self.assertIsInstance(node.comparators[0], ast.Constant, where)
+                self.assertIn(node.comparators[0].value, (None, True, False), where)
 
     def test_names(self):
         for where, node in self.each_node():

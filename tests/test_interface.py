@@ -3,18 +3,24 @@
 import unittest
 
 from aheadloads.machine import NoSuchCall, answers
-from tests.calls_of import begin, load, load_too_long, look, program, program_too_long
+from tests.calls_of import (
+    begin, get, load, load_too_long, look, program, program_too_long, run, set_to, why, word,
+)
 from tests.comparing import Comparing
 
 SEVERAL = (
     begin() + program([1, 2, 3]) + load(5, [10, 20]) + look(4, 4)
     + program_too_long(4097) + load(65535, [1, 1]) + load_too_long(0, 65537) + look(65536, 1)
     + look(65536, 0) + begin() + look(5, 2)
+    + why() + program([word(30, x=40, z=1, n=4), word(31, y=1, z=0, n=0), word(0)]) + set_to(1, 65536) + run(9) + why()
+    + get(40) + get(1) + get(140) + get(143) + set_to(0, 1) + run(10000001) + why()
 )
 SEVERAL_ANSWERS = [
     1, 0, 1, 0, 1, 0, 5, 0, 0, 10, 20, 0,
     1, -1, 1, -1, 1, -1, 1, -1,
     1, 0, 1, 0, 3, 0, 0, 0,
+    1, 0, 1, 0, 1, 0, 1, 2, 1, 1,
+    1, -2, 2, 0, 65536, 2, 0, 2, 1, -1, 1, -1, 1, -1, 1, 1,
 ]
 
 
@@ -59,6 +65,12 @@ class Interface(Comparing):
             calls = calls + load(k, [k]) + look(k, 2)
             expected = expected + [1, 0, 3, 0, k, 0]
         self.assertEqual(answers(calls), expected)
+
+    def test_every_call_has_an_answer(self):
+        for call in (begin(), program([]), load(0, []), look(0, 0), run(0), why(), get(1), set_to(1, 0)):
+            with self.subTest(call=call):
+                told = answers(begin() + call)
+                self.assertEqual(told, [1, 0] + ([2, 0, 0] if call == get(1) else [1, 0]))
 
     def test_another_number_is_no_call(self):
         for call in (8, -1, 4294967295):

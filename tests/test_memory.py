@@ -73,11 +73,11 @@ class LoadAndLook(Comparing):
     def test_a_load_changes_memory_alone(self):
         state = State()
         state.program[3] = 4
-        state.loads_ahead = [5]
+        state.loads_ahead = {5: (65530, 2)}
         ep_load(state, 65530, 2, [1, 2])
         expected = State()
         expected.program[3] = 4
-        expected.loads_ahead = [5]
+        expected.loads_ahead = {5: (65530, 2)}
         expected.memory[65530] = 1
         expected.memory[65531] = 2
         self.assertEqual(vars(state), vars(expected))
