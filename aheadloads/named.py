@@ -49,5 +49,6 @@ def predicates_number(state):
 
 
 def set_predicates_number(state, number):
-    for name in range(PREDICATES):
-        set_predicate(state, name, number >> name & 1)
+    # From p1 on, since p0 is 1 always.
+    for name in range(1, PREDICATES):
+        state.predicates[state.predicate_places[name]] = number >> name & 1
