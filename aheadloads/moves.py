@@ -14,20 +14,28 @@ def turn_back(state, word):
 
 
 def make_frame(state, word):
-    size = word.n & 127
-    own = word.n >> 7 & 127
-    turning = word.n >> 14
-    if word.n < 0 or not sizes_can_be(size, own, turning):
-        raise NoSuchInstruction()
-    if not COMMON_REGISTERS <= word.x < COMMON_REGISTERS + size:
-        raise NoSuchInstruction()
+    size, own, turning = sizes_asked(word)
     old_size, old_own, old_turning, turned, predicates_turned = state.frame
+    # Another number that turn is asked ahead of whether the frame can be: it hangs on nothing else.
     if turning != old_turning and (turned != 0 or predicates_turned != 0):
         raise NoSuchFrame()
+    if not sizes_can_be(size, own, turning):
+        raise NoSuchInstruction()
     if is_beyond_stack(state.bottom, size):
         raise NoSuchFrame()
+    # Asked last, since rx is a register of the new frame: it can't miss from one that isn't made.
+    if word.x >= COMMON_REGISTERS + size:
+        raise NoSuchInstruction()
     state.set_frame(state.bottom, (size, own, turning, turned, predicates_turned))
     state.registers[place_to_set(state, word.x)] = state.kept_by_call
+
+
+def sizes_asked(word):
+    turning = word.n >> 14
+    # Seven bits, as a call keeps them; it is below 0 where n is.
+    if not 0 <= turning <= 127 or word.x < COMMON_REGISTERS:
+        raise NoSuchInstruction()
+    return (word.n & 127, word.n >> 7 & 127, turning)
 
 
 def from_branch(state, word):

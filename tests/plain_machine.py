@@ -300,10 +300,11 @@ class PlainMachine:
         elif what == 50:
             rest, size = divmod(n, 128)
             turning, own = divmod(rest, 128)
-            need(n >= 0 and size <= 96 and own <= size and turning <= size and turning % 8 == 0, 2)
-            need(32 <= x < 32 + size, 2)
+            need(0 <= turning < 128 and x >= 32, 2)
             need(turning == now["t"] or now["g"] == now["h"] == 0, 4)
+            need(size <= 96 and own <= size and turning <= size and turning % 8 == 0, 2)
             need(now["bottom"] + size <= 4096, 4)
+            need(x < 32 + size, 2)
             now["s"], now["l"], now["t"] = size, own, turning
             self.put(x, now["PFS"])
         elif what == 51:

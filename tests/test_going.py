@@ -234,6 +234,22 @@ class Nesting(Comparing):
         told = ask(*called, run(1), why(), get(142), run(1), why(), get(142))
         self.assertEqual(told[2:], [[0, 4032], [0], [0], [1], [0], [0, 64], [0], [4], [0, 64]])
 
+    def test_a_frame_beyond_the_stack_where_it_has_another_fault(self):
+        # The bottom is 4032, the frame of 32, and h is 47.
+        words = self.descend(96, 64) + [word(48, n=1)]
+        called = [program(words), run(63 * 3), set_to(140, 3), run(1), get(141), get(142)]
+        for x, sizes, reason in (
+            (32, (65,), NO_SUCH_FRAME), (97, (65,), NO_SUCH_FRAME), (255, (65,), NO_SUCH_FRAME),
+            (127, (96, 96), NO_SUCH_FRAME), (96, (64,), NO_SUCH_INSTRUCTION), (31, (65,), NO_SUCH_INSTRUCTION),
+            (32, (97,), NO_SUCH_INSTRUCTION), (32, (65, 66), NO_SUCH_INSTRUCTION), (97, (65, 0, 8), NO_SUCH_FRAME),
+            (32, (97, 0, 8), NO_SUCH_FRAME), (32, (65, 66, 72), NO_SUCH_FRAME),
+        ):
+            with self.subTest(x=x, sizes=sizes):
+                one = program([word(50, x=x, n=frame_n(*sizes))])
+                told = ask(*called, one, set_to(140, 0), run(1), why(), get(140), get(141), get(142))
+                before = [[0, 4032], [0, kept(32, h=47)]]
+                self.assertEqual(told[3:], [[1]] + before + [[0], [0], [0], [reason], [0, 0]] + before)
+
     def test_a_return_must_end_within_the_stack_too(self):
         words = self.descend(96, 64)
         # The bottom is 4032; with none given back a frame of 64 ends with the stack.

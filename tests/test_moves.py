@@ -114,13 +114,53 @@ class MakeFrame(Steps):
         first = [frame(47, 16, 0, 8)] + [TURN] * 48
         self.check_step(frame(47, 16, 0, 16), {47: 7, 142: kept(16, 0, 16)}, first=first, values={PFS: 7})
 
-    def test_what_can_not_be_goes_ahead_of_another_turning(self):
-        first = [frame(47, 16, 0, 8), TURN]
-        for one in (
-            frame(47, 16, 17, 0), frame(47, 16, 0, 9), frame(47, 97, 0, 0), frame(48, 16, 0, 0), frame(31, 16, 0, 0),
-        ):
+    def check_each(self, words, reason, first):
+        for one in words:
             with self.subTest(one=one):
-                self.check_refused(one, NO_SUCH_INSTRUCTION, first=first, values={PFS: 7})
+                self.check_refused(one, reason, first=first, values={PFS: 7})
+
+    def test_another_turning_goes_ahead_of_what_can_not_be(self):
+        both = [frame(47, 16, 0, 8), TURN]
+        self.check_each((
+            frame(47, 16, 17, 0), frame(47, 16, 0, 9), frame(47, 16, 0, 24), frame(47, 16, 0, 127), frame(47, 97, 0, 0),
+            frame(127, 127, 127, 127), frame(32, 0, 0, 16), frame(47, 0, 127, 0),
+        ), NO_SUCH_FRAME, both)
+        only_predicates = [TURN]
+        only_registers = [frame(127, 96, 0, 40)] + [TURN] * 48
+        for first in (only_predicates, only_registers):
+            self.check_each((
+                frame(40, 16, 0, 24), frame(40, 16, 0, 4), frame(40, 16, 17, 8), frame(40, 97, 0, 8),
+            ), NO_SUCH_FRAME, first)
+
+    def test_another_turning_goes_ahead_of_an_rx_that_is_not_there(self):
+        first = [frame(47, 16, 0, 8), TURN]
+        self.check_each((
+            frame(48, 16, 0, 0), frame(127, 16, 0, 16), frame(128, 16, 0, 16), frame(255, 96, 0, 16), frame(32, 0),
+        ), NO_SUCH_FRAME, first)
+
+    def test_no_such_n_or_x_goes_ahead_of_another_turning(self):
+        first = [frame(47, 16, 0, 8), TURN]
+        self.check_each((
+            frame(31, 16, 0, 0), frame(0, 16, 0, 16), frame(1, 97, 0, 0), word(50, x=47, n=-1),
+            word(50, x=47, n=frame_n(16) - 2 ** 23), word(50, x=47, n=frame_n(16) - 2 ** 21),
+            word(50, x=47, n=2 ** 21), word(50, x=47, n=2 ** 21 + frame_n(16)), word(50, x=47, n=2 ** 22 + frame_n(16)),
+            word(50, x=47, n=2 ** 23 - 1),
+        ), NO_SUCH_INSTRUCTION, first)
+
+    def test_the_same_turning_of_what_can_not_be(self):
+        first = [frame(47, 16, 0, 8), TURN]
+        self.check_each((
+            frame(47, 16, 17, 8), frame(47, 97, 0, 8), frame(32, 7, 0, 8), frame(48, 16, 0, 8), frame(128, 96, 0, 8),
+        ), NO_SUCH_INSTRUCTION, first)
+        words = (frame(40, 16, 17), frame(40, 97), frame(48, 16), frame(32, 0))
+        self.check_each(words, NO_SUCH_INSTRUCTION, [TURN])
+
+    def test_another_turning_of_what_can_not_be_where_nothing_is_turned(self):
+        first = [frame(47, 16, 0, 8)]
+        self.check_each((
+            frame(47, 16, 17, 0), frame(47, 16, 0, 9), frame(47, 16, 0, 24), frame(47, 97, 0, 0), frame(48, 16, 0, 16),
+            word(50, x=47, n=2 ** 21 + frame_n(16)),
+        ), NO_SUCH_INSTRUCTION, first)
 
     def test_rx_where_it_is_turned(self):
         # With g 7 r32 is the eighth of the frame.
